@@ -1,0 +1,1 @@
+"""Coins laid one by one, each so that the mean is no worse."""
