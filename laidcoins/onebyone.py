@@ -1,6 +1,6 @@
 """Coins laid one by one: `answers` goes through the calls on one object and gives back what they answer."""
 
-# The calls' numbers; those from 9 on are known by their form alone, so that they can be answered -11.
+# The calls' numbers.
 BEGIN = 0
 COIN = 1
 ALL = 2
@@ -10,12 +10,22 @@ WANT = 5
 LAY = 6
 LIFT = 7
 CHOOSE = 8
+RUN = 9
+MEAN = 10
+MEANIF = 11
+CHANCE = 12
+WORTH = 13
+BEST = 14
+SWING = 15
+TABLE = 16
+CLEAR = 17
 
 # How many whole numbers stand behind each call's number, ahead of its row.
 NUMBERS = (1, 3, 1, 2, 1, 1, 2, 1, 1, 0, 0, 2, 1, 0, 0, 1, 0, 0)
 WITH_ROW = (2, 3, 9)
 
 NO_SUCH = -2
+STILL_THROWN = -6
 NOT_BEGUN = -11
 IS_LAID = -17
 WRONG = -22
@@ -33,27 +43,17 @@ THROWN = -1
 AS_TOLD = -1
 
 
-class NotBuilt(Exception):
-    """A call that the document has and the program hasn't yet."""
-
-
 def is_weight(w):
     return -MOST_WEIGHT <= w <= MOST_WEIGHT
 
 
 def within(row, end):
     """Whether every number of the row is from 0 to below end."""
-    for number in row:
-        if number < 0 or number >= end:
-            return False
-    return True
+    return all([0 <= number < end for number in row])
 
 
 def is_rising(row):
-    for k in range(1, len(row)):
-        if row[k] <= row[k - 1]:
-            return False
-    return True
+    return all([row[k - 1] < row[k] for k in range(1, len(row))])
 
 
 def coin_parts(chance, lies):
@@ -114,6 +114,40 @@ def mean_upper(chances, laid, terms):
     return sum([term[0] * term_parts(parts, term) for term in terms])
 
 
+def greatest_common(a, b):
+    high = a
+    low = b
+    while low != 0:
+        rest = high % low
+        high = low
+        low = rest
+    return high
+
+
+def is_so(term, way):
+    if term[1] == AS_TOLD:
+        return all([way[told // 2] == told % 2 for told in term[2]])
+    return sum([way[i] for i in term[2]]) >= term[1]
+
+
+def comes_to(terms, way):
+    return sum([term[0] for term in terms if is_so(term, way)])
+
+
+def all_ways(laid):
+    """Every way in which all coins may lie, those laid as they are; where two first differ the one with 0 is first."""
+    ways = [[]]
+    for lies in laid:
+        longer = []
+        for way in ways:
+            if lies != 1:
+                longer.append(way + [0])
+            if lies != 0:
+                longer.append(way + [1])
+        ways = longer
+    return ways
+
+
 class Coins:
     """What the calls work on; it has no coins until a begin is answered 0."""
 
@@ -128,6 +162,9 @@ class Coins:
 
     def has_coin(self, i):
         return 0 <= i < len(self.laid)
+
+    def has_term(self, j):
+        return 0 <= j < len(self.terms)
 
     def begin(self, n):
         if n < 1 or n > MOST_COINS:
@@ -167,7 +204,7 @@ class Coins:
         return self.add_term(w, t, row)
 
     def drop(self, j):
-        if j < 0 or j >= len(self.terms):
+        if not self.has_term(j):
             return NO_SUCH
         self.terms = self.terms[:j] + self.terms[j + 1:]
         return len(self.terms)
@@ -179,15 +216,21 @@ class Coins:
         self.much = s
         return before
 
-    def lay(self, i, v):
+    def refusal_to_lay(self, i, v=0):
+        """0 if coin i may be laid as v; where no v is told, it isn't what is wrong."""
         if not self.has_coin(i):
             return NO_SUCH
         if v != 0 and v != 1:
             return WRONG
         if self.laid[i] != THROWN:
             return IS_LAID
-        self.laid[i] = v
         return 0
+
+    def lay(self, i, v):
+        refusal = self.refusal_to_lay(i, v)
+        if refusal == 0:
+            self.laid[i] = v
+        return refusal
 
     def lift(self, i):
         if not self.has_coin(i):
@@ -202,36 +245,95 @@ class Coins:
         laid[i] = v
         return mean_upper(self.chances, laid, self.terms)
 
-    def laid_well(self, i):
+    def is_better(self, one, other):
+        return one > other if self.much == 1 else one < other
+
+    def lay_well(self, i):
         as_zero = self.mean_upper_if(i, 0)
         as_one = self.mean_upper_if(i, 1)
-        if self.much == 1:
-            return 1 if as_one > as_zero else 0
-        return 1 if as_one < as_zero else 0
+        self.laid[i] = 1 if self.is_better(as_one, as_zero) else 0
 
     def choose(self, i):
-        if not self.has_coin(i):
-            return NO_SUCH
-        if self.laid[i] != THROWN:
-            return IS_LAID
-        v = self.laid_well(i)
-        self.laid[i] = v
-        return v
+        refusal = self.refusal_to_lay(i)
+        if refusal != 0:
+            return refusal
+        self.lay_well(i)
+        return self.laid[i]
+
+    def run(self, row):
+        if len(row) > MOST_TOLD or not within(row, len(self.laid)):
+            return [WRONG]
+        for i in row:
+            if self.laid[i] == THROWN:
+                self.lay_well(i)
+        return [self.laid.count(THROWN)] + self.laid
+
+    def lift_all(self):
+        were_laid = len(self.laid) - self.laid.count(THROWN)
+        self.laid = [THROWN for i in range(len(self.laid))]
+        return were_laid
+
+    def fraction(self, upper):
+        """The answer that tells upper by the product of all coins' b."""
+        lower = 1
+        for chance in self.chances:
+            lower = lower * chance[1]
+        common = greatest_common(abs(upper), lower)
+        return [0, upper // common, lower // common]
+
+    def mean(self):
+        return self.fraction(mean_upper(self.chances, self.laid, self.terms))
+
+    def mean_if(self, i, v):
+        refusal = self.refusal_to_lay(i, v)
+        if refusal != 0:
+            return [refusal]
+        return self.fraction(self.mean_upper_if(i, v))
+
+    def swing(self, i):
+        refusal = self.refusal_to_lay(i)
+        if refusal != 0:
+            return [refusal]
+        return self.fraction(self.mean_upper_if(i, 1) - self.mean_upper_if(i, 0))
+
+    def chance(self, j):
+        if not self.has_term(j):
+            return [NO_SUCH]
+        term = self.terms[j]
+        # How likely a term is, is the mean of it alone with a weight of 1.
+        return self.fraction(mean_upper(self.chances, self.laid, [(1, term[1], term[2])]))
+
+    def worth(self):
+        if THROWN in self.laid:
+            return [STILL_THROWN]
+        return [0, comes_to(self.terms, self.laid)]
+
+    def best(self):
+        ways = all_ways(self.laid)
+        numbers = [comes_to(self.terms, way) for way in ways]
+        number = max(numbers) if self.much == 1 else min(numbers)
+        return [0, number] + ways[numbers.index(number)]
+
+    def table(self):
+        found = [len(self.laid)] + self.laid + [len(self.terms)]
+        for term in self.terms:
+            found.extend([term[0], term[1], len(term[2])])
+            found.extend(term[2])
+        return found
 
 
-def answer_on_terms(coins, call, numbers, row):
+def one_number(coins, call, numbers, row):
+    """What the calls from coin to choose answer."""
+    if call == COIN:
+        return coins.coin(numbers[0], numbers[1], numbers[2])
     if call == ALL:
         return coins.add_all(numbers[0], row)
     if call == MANY:
         return coins.add_many(numbers[0], numbers[1], row)
     if call == DROP:
         return coins.drop(numbers[0])
-    return coins.want(numbers[0])
-
-
-def answer_on_coins(coins, call, numbers):
-    if call == COIN:
-        return coins.coin(numbers[0], numbers[1], numbers[2])
+    if call == WANT:
+        return coins.want(numbers[0])
     if call == LAY:
         return coins.lay(numbers[0], numbers[1])
     if call == LIFT:
@@ -239,16 +341,35 @@ def answer_on_coins(coins, call, numbers):
     return coins.choose(numbers[0])
 
 
+def some_numbers(coins, call, numbers, row):
+    """What the calls from run to table answer."""
+    if call == RUN:
+        return coins.run(row)
+    if call == MEAN:
+        return coins.mean()
+    if call == MEANIF:
+        return coins.mean_if(numbers[0], numbers[1])
+    if call == CHANCE:
+        return coins.chance(numbers[0])
+    if call == WORTH:
+        return coins.worth()
+    if call == BEST:
+        return coins.best()
+    if call == SWING:
+        return coins.swing(numbers[0])
+    return coins.table()
+
+
 def answer(coins, call, numbers, row):
     if call == BEGIN:
         return [coins.begin(numbers[0])]
     if not coins.is_begun():
         return [NOT_BEGUN]
-    if call in (ALL, MANY, DROP, WANT):
-        return [answer_on_terms(coins, call, numbers, row)]
-    if call in (COIN, LAY, LIFT, CHOOSE):
-        return [answer_on_coins(coins, call, numbers)]
-    raise NotBuilt(f"call {call} is not built yet")
+    if call == CLEAR:
+        return [coins.lift_all()]
+    if call <= CHOOSE:
+        return [one_number(coins, call, numbers, row)]
+    return some_numbers(coins, call, numbers, row)
 
 
 def answers(calls):

